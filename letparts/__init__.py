@@ -1,0 +1,1 @@
+"""Which rows of parts are let, and how many of each number."""
