@@ -30,6 +30,36 @@ raises InvalidBans(index=1)
 >>> [count(unlike, 9), count(odd, 9), count_all(9), counts(few, 6), sieve(few), ban_sums(unlike, 6), excesses(unlike, 6), divisor_sums(odd, 6)]
 [8, 8, 30, (1, 1, 2, 1, 3, 3, 6), ((0, 1), (3, -2), (6, 1)), (0, 1, 0, 1, 0, 1), (1, 0, 1, 0, 1, 0), (1, 1, 4, 1, 6, 4)]
 '''),
+    ("listed", '''
+>>> from letparts.listed import count_up_to, let_rows, next_let, nth_let, place_let
+>>> [let_rows(unlike, 6), count_up_to(few, 6, 2), nth_let(odd, 9, 3), place_let(odd, (3, 3, 1, 1, 1)), next_let(few, (4, 1, 1))]
+[((3, 2, 1), (4, 2), (5, 1), (6,)), 2, (3, 3, 3), 2, (4, 2)]
+'''),
+    ("signed", '''
+>>> from letparts.signed import signed_count, signed_counts
+>>> [signed_counts(Caps.read("|*"), 6), signed_count(unlike, 7), signed_counts(few, 4)]
+[(1, -1, 0, -1, 1, -1, 1), 1, (1, -1, 0, -1, 1)]
+'''),
+    ("boxes", '''
+>>> from letparts.boxes import apart_counts, box_counts, great_count, length_counts, square_counts
+>>> [box_counts(2, 3), length_counts(5), square_counts(5), apart_counts(9, 2, 1), counts(Caps.read("|*00*0"), 9)]
+[(1, 1, 2, 2, 2, 1, 1), (0, 1, 2, 2, 1, 1), (0, 5, 2), (1, 1, 1, 1, 2, 2, 3, 3, 4, 5), (1, 1, 1, 1, 2, 2, 3, 3, 4, 5)]
+>>> [great_count((1, 5, 10), 100), great_count((2, 3), 10 ** 30)]
+[121, 166666666666666666666666666667]
+'''),
+    ("alike", '''
+>>> from letparts.alike import alike, first_unlike, matched
+>>> second = Bans(((1, 1, 1), (3,)))
+>>> [alike(unlike, odd), first_unlike(unlike, Caps((), (2,))), alike(few, second), alike(few, unlike), first_unlike(few, unlike), matched(unlike, odd, 8)]
+[True, 2, True, False, 2, ((1, 2), (2, 4), (3, 6), (4, 8))]
+'''),
+    ("exchange", '''
+>>> from letparts.exchange import exchanged, exchanges
+>>> [exchanged((6, 4, 1), unlike, odd), exchanges((6, 4, 1), unlike, odd), exchanged((3, 3, 1, 1, 1, 1, 1), odd, unlike)]
+[(3, 3, 1, 1, 1, 1, 1), (4, 2, 2, 6), (6, 4, 1)]
+>>> exchanged((6, 6), unlike, odd)
+raises NotLet(given=(6, 6))
+'''),
 )
 
 

@@ -7,23 +7,30 @@ import re
 import unittest
 
 PACKAGE = pathlib.Path(__file__).resolve().parent.parent / "letparts"
-LIBRARY = {"heapq": "heappush heappop heapify heapreplace heappushpop", "itertools": "product combinations permutations",
-           "math": "gcd lcm isqrt comb perm factorial"}
-BUILTINS = """len range enumerate zip min max sum abs sorted reversed int str bool list tuple dict set isinstance ord repr
-    any all divmod Exception ValueError TypeError KeyError IndexError LookupError ZeroDivisionError ArithmeticError
-    OverflowError RuntimeError NotImplementedError property classmethod""".split()
-METHODS = """append clear copy count endswith extend find get index insert isalnum isalpha isdigit islower isspace isupper
-    items join keys ljust lower lstrip partition pop remove replace reverse rfind rjust rpartition rsplit rstrip setdefault
+LIBRARY = {
+    "heapq": "heappush heappop heapify heapreplace heappushpop",
+    "itertools": "product combinations permutations",
+    "math": "gcd lcm isqrt comb perm factorial"}
+BUILTINS = """
+    len range enumerate zip min max sum abs sorted reversed int str bool list tuple dict set isinstance ord repr any all
+    divmod Exception ValueError TypeError KeyError IndexError LookupError ZeroDivisionError ArithmeticError OverflowError
+    RuntimeError NotImplementedError property classmethod""".split()
+METHODS = """
+    append clear copy count endswith extend find get index insert isalnum isalpha isdigit islower isspace isupper items
+    join keys ljust lower lstrip partition pop remove replace reverse rfind rjust rpartition rsplit rstrip setdefault
     split splitlines startswith strip update upper values zfill bit_length""".split()
 OWN_METHODS = "cap shortest read lean".split()
-BARRED_NAMES = """register mro elements open input law version_info with_traceback add_note attrgetter breakpoint builtins
-    compile copyright credits delattr dir eval exec exit gc getattr globals hasattr help id importlib license locals
-    methodcaller os quit setattr super type vars sys""".split()
-BARRED_WORDS = re.compile(r"\b(typing|enum|Enum|Flag|Generic|Protocol|ABC|namedtuple|NamedTuple|TypedDict|_wall)\b|dataclass")
-NODES = """Module Expr Constant ImportFrom alias FunctionDef arguments arg ClassDef Return Assign AugAssign If While For Break
-    Continue Pass Raise Name Load Store Attribute Subscript Slice Tuple List Dict Set BoolOp And Or UnaryOp Not USub BinOp Add
-    Sub Mult FloorDiv Mod Pow BitXor BitAnd Compare Eq NotEq Lt LtE Gt GtE Is IsNot In NotIn Call keyword IfExp ListComp
-    DictComp SetComp comprehension JoinedStr FormattedValue""".split()
+BARRED_NAMES = """
+    register mro elements open input law version_info with_traceback add_note attrgetter breakpoint builtins compile
+    copyright credits delattr dir eval exec exit gc getattr globals hasattr help id importlib license locals methodcaller
+    os quit setattr super type vars sys""".split()
+BARRED_WORDS = re.compile(
+    r"\b(typing|enum|Enum|Flag|Generic|Protocol|ABC|namedtuple|NamedTuple|TypedDict|_wall)\b|dataclass")
+NODES = """
+    Module Expr Constant ImportFrom alias FunctionDef arguments arg ClassDef Return Assign AugAssign If While For Break
+    Continue Pass Raise Name Load Store Attribute Subscript Slice Tuple List Dict Set BoolOp And Or UnaryOp Not USub
+    BinOp Add Sub Mult FloorDiv Mod Pow BitXor BitAnd Compare Eq NotEq Lt LtE Gt GtE Is IsNot In NotIn Call keyword
+    IfExp ListComp DictComp SetComp comprehension JoinedStr FormattedValue""".split()
 FILES = {path: ast.parse(path.read_text()) for path in sorted(PACKAGE.rglob("*.py"))}
 
 
