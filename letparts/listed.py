@@ -39,8 +39,9 @@ def _lacking(ban, times):
 
 def _count_by_bans(rule, times, left, most):
     """As _count_behind, for a ban rule; the told parts come as their times."""
+    # Each ban lacks some parts, as none stands in the told ones; if a part above `most` is lacking, none can come to.
     lacking = [_lacking(ban, times) for ban in rule.bans]
-    reached = [ban for ban in lacking if not ban or ban[0] <= most]
+    reached = [parts for parts in lacking if parts[0] <= most]
     table = rows_up_to(most, left)
     found = 0
     for join, sign in joins_of(reached):

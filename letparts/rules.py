@@ -37,7 +37,7 @@ def _wrong_ban(bans):
 def _shortest_tail(tail):
     """The shortest tail that, told again and again, has the same caps."""
     for length in range(1, len(tail)):
-        if len(tail) % length == 0 and tail[:length] * (len(tail) // length) == tail:
+        if tail[:length] * (len(tail) // length) == tail:
             return tail[:length]
     return tail
 
@@ -65,8 +65,8 @@ def _caps_of_text(text):
     """The pair of head and tail of the cap rule with this text; None if there is none."""
     if not isinstance(text, str):
         return None
-    before, bar, behind = text.partition("|")
-    if not bar or not all([sign in _SIGNS for sign in before + behind]):
+    before, _, behind = text.partition("|")
+    if not all([sign in _SIGNS for sign in before + behind]):
         return None
     if len(before) > MOST_HEAD or not 1 <= len(behind) <= MOST_TAIL:
         return None

@@ -84,6 +84,8 @@ class Counts(Case):
         for function in (count, counts):
             self.fails_in_order(function, ("rule", UNLIKE, given(NotARule, NOT_RULES)),
                                 ("number", 9, given(InvalidNumber, NOT_NUMBERS)))
+            self.fails_in_order(function, ("rule", FEW, given(NotARule, NOT_RULES)),
+                                ("number", 9, given(InvalidNumber, NOT_NUMBERS)))
         self.fails_in_order(count_all, ("number", 9, given(InvalidNumber, NOT_NUMBERS)))
 
 

@@ -72,9 +72,10 @@ class Signed(Case):
 
     def test_wrong(self):
         for function in (signed_count, signed_counts):
-            self.fails_in_order(
-                function, ("rule", FEW, given(NotARule, NOT_INTEGERS + (0, "|1", "none", ((1,),), Caps, Bans))),
-                ("number", 9, given(InvalidNumber, NOT_INTEGERS + (-1, 401, 600, 10 ** 99))))
+            for right in (FEW, UNLIKE):
+                self.fails_in_order(
+                    function, ("rule", right, given(NotARule, NOT_INTEGERS + (0, "|1", "none", ((1,),), Caps, Bans))),
+                    ("number", 9, given(InvalidNumber, NOT_INTEGERS + (-1, 401, 600, 10 ** 99))))
 
 
 if __name__ == "__main__":
