@@ -2,13 +2,11 @@
 
 from math import comb, isqrt, lcm
 
-from letparts.checks import is_from_to, need_from_to, need_number
+from letparts.checks import is_from_to, need_from_to, need_gap_and_least, need_number
 from letparts.errors import InvalidSizes, TooMany
 from letparts.series import less_shifted, one_alone, rows_up_to, with_size
 
 _MOST_SIDE = 20
-_MOST_GAP = 9
-_MOST_LEAST = 9
 _MOST_SIZES = 6
 _MOST_SIZE = 30
 _MOST_MULTIPLE = 2520
@@ -49,8 +47,7 @@ def square_counts(number):
 def apart_counts(number, gap, least):
     """How many rows of 0, 1, .. up to the number are apart by this gap from this least part on."""
     need_number(number)
-    need_from_to(gap, 0, _MOST_GAP)
-    need_from_to(least, 1, _MOST_LEAST)
+    need_gap_and_least(gap, least)
     found = [0] * (number + 1)
     length = 0
     lowest = 0

@@ -1,7 +1,11 @@
-"""What arguments are looked at for: integers and rows."""
+"""What arguments are looked at for: integers, rows, and what is asked of them."""
 
-from letparts.errors import InvalidNumber, InvalidRow
-from letparts.limits import MOST_NUMBER, MOST_SUM
+from letparts.errors import InvalidNumber, InvalidRow, InvalidRows, NotOdd, NotUnlike, TooMany
+from letparts.limits import MOST_NUMBER, MOST_RODS, MOST_SUM
+
+_MOST_ROWS = 60
+_MOST_GAP = 9
+_MOST_LEAST = 9
 
 
 def is_integer(value):
@@ -41,7 +45,45 @@ def need_number(number, most=MOST_NUMBER):
     need_from_to(number, 0, most)
 
 
+def need_rods(rods):
+    """InvalidNumber for what is no number of rods."""
+    need_from_to(rods, 2, MOST_RODS)
+
+
+def need_gap_and_least(gap, least):
+    """InvalidNumber for what is no gap between the parts of a row, then for what is no least part."""
+    need_from_to(gap, 0, _MOST_GAP)
+    need_from_to(least, 1, _MOST_LEAST)
+
+
 def need_row(row):
     """InvalidRow for what is no row."""
     if not is_row(row):
         raise InvalidRow(row)
+
+
+def need_rows(rows):
+    """InvalidRows for what is no tuple of up to sixty rows."""
+    if not isinstance(rows, tuple):
+        raise InvalidRows(None)
+    for at, row in enumerate(rows):
+        if at == _MOST_ROWS or not is_row(row):
+            raise InvalidRows(at)
+
+
+def need_sum(total, most=MOST_SUM):
+    """TooMany for a sum above a greatest one."""
+    if total > most:
+        raise TooMany(total)
+
+
+def need_unlike(row):
+    """NotUnlike for a row with like parts."""
+    if len(set(row)) < len(row):
+        raise NotUnlike(row)
+
+
+def need_odd(row):
+    """NotOdd for a row with an even part."""
+    if any([part % 2 == 0 for part in row]):
+        raise NotOdd(row)

@@ -28,7 +28,10 @@ def count_all(number):
 
 
 def joins_of(bans):
-    """For each choice of bans the pair of its join, and 1 or -1 as it has an even or odd number."""
+    """For each choice of bans the pair of its join, and 1 or -1 as it has an even or odd number.
+
+    The choice at an index has those bans whose indexes are places of ones in it, written to base 2.
+    """
     joins = [((), 1)]
     for ban in bans:
         joins = joins + [(joined(join, ban), -sign) for join, sign in joins]
@@ -67,21 +70,25 @@ def excesses(rule, number):
     return tuple([1 - many for many in ban_sums(rule, number)])
 
 
+def _sums_by_excesses(shares):
+    """The divisor sums of 1, 2, .. for these excesses of 1, 2, .. ."""
+    sums = [0] * len(shares)
+    for m, excess in enumerate(shares, start=1):
+        for k in range(m, len(shares) + 1, m):
+            sums[k - 1] += m * excess
+    return sums
+
+
 def divisor_sums(rule, number):
     """For 1, 2, .. up to the number the sum of m times the excess of m over all m that divide it."""
-    shares = excesses(rule, number)
-    sums = [0] * number
-    for m, excess in enumerate(shares, start=1):
-        for k in range(m, number + 1, m):
-            sums[k - 1] += m * excess
-    return tuple(sums)
+    return tuple(_sums_by_excesses(excesses(rule, number)))
 
 
-def _counts_by_caps(rule, number):
-    """How many rows of 0, 1, .. up to the number a cap rule lets."""
-    sums = divisor_sums(rule, number)
+def counts_by_excesses(shares):
+    """The counts of 0, 1, .. for these excesses of 1, 2, .. ."""
+    sums = _sums_by_excesses(shares)
     found = [1]
-    for n in range(1, number + 1):
+    for n in range(1, len(shares) + 1):
         found.append(sum([sums[k - 1] * found[n - k] for k in range(1, n + 1)]) // n)
     return found
 
@@ -101,7 +108,7 @@ def counts(rule, number):
     need_rule(rule)
     need_number(number)
     if isinstance(rule, Caps):
-        return tuple(_counts_by_caps(rule, number))
+        return tuple(counts_by_excesses(excesses(rule, number)))
     return tuple(_counts_by_bans(rule, number))
 
 

@@ -1,8 +1,8 @@
 """Rows that one cap rule lets are exchanged for rows that an alike one lets."""
 
 from letparts.alike import matched_sizes, need_alike
-from letparts.checks import need_row
-from letparts.errors import NotLet, TooMany
+from letparts.checks import need_row, need_sum
+from letparts.errors import NotLet
 from letparts.limits import MOST_LED
 from letparts.parts import row_of_times, times_of
 from letparts.rules import lets, need_caps
@@ -14,9 +14,7 @@ def _need_exchange(row, rule, other):
     need_caps(rule)
     need_caps(other)
     need_alike(rule, other)
-    total = sum(row)
-    if total > MOST_LED:
-        raise TooMany(total)
+    need_sum(sum(row), MOST_LED)
     if not lets(rule, row):
         raise NotLet(row)
 

@@ -1,8 +1,8 @@
 """The rows of a number that a rule lets, and their places among these."""
 
-from letparts.checks import is_from_to, need_from_to, need_number
+from letparts.checks import is_from_to, need_from_to, need_number, need_sum
 from letparts.counts import count, joins_of
-from letparts.errors import InvalidNumber, NotLet, TooMany
+from letparts.errors import InvalidNumber, NotLet
 from letparts.limits import MOST_LED, MOST_LISTED
 from letparts.parts import row_of_times, times_of
 from letparts.rows import all_rows
@@ -97,9 +97,7 @@ def nth_let(rule, number, index):
 def _need_let(rule, row):
     """The errors of a rule and a row of which the place is asked."""
     is_let = lets(rule, row)
-    total = sum(row)
-    if total > MOST_LED:
-        raise TooMany(total)
+    need_sum(sum(row), MOST_LED)
     if not is_let:
         raise NotLet(row)
 

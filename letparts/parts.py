@@ -68,3 +68,20 @@ def turned_row(row):
             length -= 1
         columns.append(length)
     return tuple(columns)
+
+
+def places_of(row, many):
+    """The places of the beads of a row, falling, with noughts behind it up to so many parts."""
+    padded = row + (0,) * (many - len(row))
+    return [part + many - at - 1 for at, part in enumerate(padded)]
+
+
+def row_of_places(places):
+    """The row whose beads lie at these places."""
+    row = [place - below for below, place in enumerate(sorted(places))]
+    return tuple([part for part in row[::-1] if part > 0])
+
+
+def row_of_moved(places, old, new):
+    """The row whose beads lie at these places, but for one that goes from its old place to a new one."""
+    return row_of_places([new if place == old else place for place in places])

@@ -1,12 +1,11 @@
 """Rows of parts: their texts, what they look like, how they stand in one another, and their places."""
 
-from letparts.checks import is_from_to, is_integer, is_row, need_number, need_row
-from letparts.errors import InvalidFeet, InvalidNumber, InvalidRows, InvalidText, TooMany
-from letparts.limits import MOST_LISTED, MOST_SUM
+from letparts.checks import is_from_to, is_integer, need_number, need_row, need_rows, need_sum
+from letparts.errors import InvalidFeet, InvalidNumber, InvalidText
+from letparts.limits import MOST_LISTED
 from letparts.parts import is_within_times, joined, row_of_text, text_of_row, times_of, turned_row
 from letparts.series import rows_up_to
 
-_MOST_JOINED = 60
 _MOST_PLACED = 200
 
 
@@ -59,9 +58,7 @@ def from_feet(arms, legs):
     if not _is_foot(legs) or len(legs) != len(arms):
         raise InvalidFeet(1)
     side = len(arms)
-    total = side + sum(arms) + sum(legs)
-    if total > MOST_SUM:
-        raise TooMany(total)
+    need_sum(side + sum(arms) + sum(legs))
     columns = [leg + at + 1 for at, leg in enumerate(legs)]
     row = [arm + at + 1 for at, arm in enumerate(arms)]
     for line in range(side, columns[0] if columns else 0):
@@ -83,32 +80,22 @@ def stands_in(one, other):
     return is_within_times(times_of(one), times_of(other))
 
 
-def _within_sum(row):
-    """The row, if its sum is not above the greatest one."""
-    total = sum(row)
-    if total > MOST_SUM:
-        raise TooMany(total)
-    return row
-
-
 def together(one, other):
     """The row with the parts of both rows."""
     need_row(one)
     need_row(other)
-    return _within_sum(tuple(sorted(one + other, reverse=True)))
+    need_sum(sum(one) + sum(other))
+    return tuple(sorted(one + other, reverse=True))
 
 
 def join(rows):
     """The row in which each size is as often as in that row that has it most often."""
-    if not isinstance(rows, tuple):
-        raise InvalidRows(None)
-    for at, row in enumerate(rows):
-        if at == _MOST_JOINED or not is_row(row):
-            raise InvalidRows(at)
+    need_rows(rows)
     found = ()
     for row in rows:
         found = joined(found, row)
-    return _within_sum(found)
+    need_sum(sum(found))
+    return found
 
 
 def _rows_with(number, most):
@@ -151,8 +138,7 @@ def place_of(row):
     """The index of a row among all rows of its sum, ascending."""
     need_row(row)
     left = sum(row)
-    if left > _MOST_PLACED:
-        raise TooMany(left)
+    need_sum(left, _MOST_PLACED)
     table = rows_up_to(left, left)
     place = 0
     for part in row:

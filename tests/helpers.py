@@ -80,6 +80,40 @@ def listed_rows(number, most=None):
     return [(part,) + rest for part in range(min(number, most), 0, -1) for rest in listed_rows(number - part, part)]
 
 
+def unlike_rows(number):
+    """All rows of a number without like parts."""
+    return [row for row in listed_rows(number) if len(set(row)) == len(row)]
+
+
+def odd_rows(number):
+    """All rows of a number with odd parts alone."""
+    return [row for row in listed_rows(number) if all(part % 2 for part in row)]
+
+
+def random_row(random, number, sizes=None):
+    """Any row of a number; of these sizes alone, 1 among them, if they are told."""
+    row = []
+    while number:
+        most = random.randint(1, number)
+        part = max(size for size in (sizes or range(1, most + 1)) if size <= most)
+        row.append(part)
+        number -= part
+    return tuple(sorted(row, reverse=True))
+
+
+def random_unlike(random, number):
+    """Any row of a number without like parts."""
+    row = []
+    while number:
+        most = min([number] + [part - 1 for part in row[-1:]])
+        # Behind a part there must be room for what is left, in lesser parts.
+        parts = [part for part in range(1, most + 1) if part * (part + 1) // 2 >= number]
+        part = random.choice(parts[:random.choice((1, 9, 600))])
+        row.append(part)
+        number -= part
+    return tuple(row)
+
+
 def slow_lets(rule, row):
     """Whether a rule lets a row, by what the rule was made with."""
     if hasattr(rule, "bans"):

@@ -60,6 +60,31 @@ raises InvalidBans(index=1)
 >>> exchanged((6, 6), unlike, odd)
 raises NotLet(given=(6, 6))
 '''),
+    ("walks", '''
+>>> from letparts.walks import is_even, pairings, walk_length, walked, walked_back
+>>> [pairings(few, second), walked((1, 1, 1, 1, 1, 1), few, second, (0, 1)), walk_length((1, 1, 1, 1, 1, 1), few, second, (0, 1)), walk_length((1, 1, 1, 1, 1, 1), few, second, (1, 0)), walked_back((2, 2, 1, 1), few, second, (0, 1)), is_even(few, few, (1, 0))]
+[((0, 1), (1, 0)), (2, 2, 1, 1), 4, 12, (1, 1, 1, 1, 1, 1), True]
+'''),
+    ("turns", '''
+>>> from letparts.turns import even_less_odd, fives, stays, turned_over
+>>> [turned_over((5, 4, 2)), turned_over((6, 5)), stays((2,)), fives(12), even_less_odd(7), even_less_odd(8)]
+[(6, 5), (5, 4, 2), True, (0, 1, 2, 5, 7, 12), 1, 0]
+'''),
+    ("splitting", '''
+>>> from letparts.splitting import fished, merged, runs, split, unfished
+>>> [fished((5, 3, 3, 1)), unfished((6, 4, 2)), runs((7, 6, 3, 1)), split((6, 4, 1), 2), merged((3, 3, 1, 1, 1, 1, 1), 2), split((9, 6), 3)]
+[(6, 4, 2), (5, 3, 3, 1), ((7, 6), (3,), (1,)), (3, 3, 1, 1, 1, 1, 1), (6, 4, 1), (2, 2, 2, 1, 1, 1, 1, 1, 1, 1, 1, 1)]
+'''),
+    ("squares", '''
+>>> from letparts.squares import bent, by_squares, count_own, is_own, own_rows, squares, unbent
+>>> [squares((4, 4, 1)), by_squares(4), bent((5, 3)), unbent((3, 3, 2)), is_own((3, 3, 2)), own_rows(8), count_own(30)]
+[(2, 1), (0, 2, 1, 1, 1), (3, 3, 2), (5, 3), True, ((3, 3, 2), (4, 2, 1, 1)), 18]
+'''),
+    ("gaps", '''
+>>> from letparts.gaps import apart_rows, drawn_in, drawn_out, from_gaps, gaps, is_apart
+>>> [gaps((4, 4, 1)), from_gaps((0, 3, 1)), is_apart((6, 3, 1), 2, 1), apart_rows(9, 2, 2), drawn_in((6, 3, 1), 2, 1), drawn_out(3, (1,), 2, 1)]
+[(0, 3, 1), (4, 4, 1), True, ((6, 3), (7, 2), (9,)), (3, (1,)), (6, 3, 1)]
+'''),
 )
 
 

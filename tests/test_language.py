@@ -29,8 +29,8 @@ BARRED_WORDS = re.compile(
 NODES = """
     Module Expr Constant ImportFrom alias FunctionDef arguments arg ClassDef Return Assign AugAssign If While For Break
     Continue Pass Raise Name Load Store Attribute Subscript Slice Tuple List Dict Set BoolOp And Or UnaryOp Not USub
-    BinOp Add Sub Mult FloorDiv Mod Pow BitXor BitAnd Compare Eq NotEq Lt LtE Gt GtE Is IsNot In NotIn Call keyword
-    IfExp ListComp DictComp SetComp comprehension JoinedStr FormattedValue""".split()
+    BinOp Add Sub Mult FloorDiv Mod Pow BitXor BitAnd BitOr LShift Compare Eq NotEq Lt LtE Gt GtE Is IsNot In NotIn
+    Lambda Call keyword IfExp ListComp DictComp SetComp comprehension JoinedStr FormattedValue""".split()
 FILES = {path: ast.parse(path.read_text()) for path in sorted(PACKAGE.rglob("*.py"))}
 
 
