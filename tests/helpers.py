@@ -114,6 +114,17 @@ def random_unlike(random, number):
     return tuple(row)
 
 
+def rims_by_hooks(row):
+    """For each box of a row the pair of its hook and the row without the rim from the hook's one end to the other."""
+    found = []
+    for line, part in enumerate(row):
+        for at in range(part):
+            foot = max(low for low, other in enumerate(row) if other > at)
+            lower = row[:line] + tuple(other - 1 for other in row[line + 1:foot + 1]) + (at,) + row[foot + 1:]
+            found.append((part - at + foot - line, tuple(other for other in lower if other)))
+    return found
+
+
 def slow_lets(rule, row):
     """Whether a rule lets a row, by what the rule was made with."""
     if hasattr(rule, "bans"):

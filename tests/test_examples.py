@@ -85,6 +85,34 @@ raises NotLet(given=(6, 6))
 >>> [gaps((4, 4, 1)), from_gaps((0, 3, 1)), is_apart((6, 3, 1), 2, 1), apart_rows(9, 2, 2), drawn_in((6, 3, 1), 2, 1), drawn_out(3, (1,), 2, 1)]
 [(0, 3, 1), (4, 4, 1), True, ((6, 3), (7, 2), (9,)), (3, (1,)), (6, 3, 1)]
 '''),
+    ("rods", '''
+>>> from letparts.rods import beads, both_cores, core, cores, count_both, count_cores, from_threads, is_core, strikes, threads
+>>> [beads((4, 4, 1), 3), threads((4, 4, 1), 3), core((4, 4, 1), 3), strikes((4, 4, 1), 3), from_threads(3, (3, 1), ((), (1,), ())), is_core((3, 1), 3)]
+[((2,), (0,), (1,)), ((2,), (), (1,)), (), ((3, 2, 1), (4, 1, 1)), (3, 1, 1, 1, 1), True]
+>>> [cores(4, 3), count_cores(5, 3), both_cores(3, 4), count_both(8, 9)]
+[((2, 1, 1), (3, 1)), 1, ((), (1,), (1, 1), (2,), (3, 1, 1)), 1430]
+'''),
+    ("vectors", '''
+>>> from letparts.vectors import from_vector, raises, rod_sign, vector
+>>> [vector((3, 1), 3), from_vector((0, 1, -1)), raises((2,), 2), rod_sign((4, 4, 1), 3), rod_sign((1, 1), 2)]
+[(0, -1, 1), (2,), ((2, 1, 1), (2, 2), (4,)), 1, -1]
+'''),
+    ("ladders", '''
+>>> from letparts.ladders import ladders, steps_down, steps_up, strike_ladders
+>>> every = Caps.read("|*")
+>>> [ladders(every, (3, 2)), ladders(unlike, (4, 2, 1)), steps_up(unlike, (3, 1)), steps_down(every, (4, 4, 1)), strike_ladders((4, 4, 1), 3)]
+[5, 7, ((3, 2), (4, 1)), ((4, 3, 1), (4, 4)), 3]
+'''),
+    ("games", '''
+>>> from letparts.games import beside, best_moves, is_lost, rims, winning, worth
+>>> [rims((2, 1)), worth((4, 4, 1)), is_lost((4, 4)), best_moves((4, 4, 1)), beside(((3,), (1, 1, 1))), winning(((2,), (1,)))]
+[((), (1, 1), (2,)), 5, True, ((3, 2, 1), (4, 3, 1), (4, 4)), 0, ((0, (1,)),)]
+'''),
+    ("ranks", '''
+>>> from letparts.ranks import by_crank, by_rank, crank, rank
+>>> [rank((4, 4, 1)), crank((4, 4, 1)), crank((1, 1)), by_rank(9, 5), by_crank(6, 11)]
+[1, 1, -2, (6, 6, 6, 6, 6), (1, 1, 1, 1, 1, 1, 1, 1, 1, 1, 1)]
+'''),
 )
 
 

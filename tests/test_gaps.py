@@ -89,8 +89,8 @@ class Apart(Case):
     def test_apart_rows(self):
         for gap, least in BOTH:
             for number in (0, 1, 8, 9, 10, 13, 19):
-                found = apart_rows(number, gap, least)
-                self.assertEqual(found, tuple(sorted(row for row in listed_rows(number) if slow_apart(row, gap, least))))
+                expected = sorted(row for row in listed_rows(number) if slow_apart(row, gap, least))
+                self.assertEqual(apart_rows(number, gap, least), tuple(expected))
         for gap, least in ((0, 1), (2, 1), (9, 9), (0, 9), (9, 1)):
             for number in (0, 9, 23, 24):
                 expected = tuple(sorted(row for row in listed_rows(number) if slow_apart(row, gap, least)))

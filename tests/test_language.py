@@ -107,6 +107,19 @@ class Language(unittest.TestCase):
             self.assertTrue(ready, "two files import from each other")
             done |= ready
 
+    def test_library_names_are_called_by_position_alone(self):
+        for path, tree in FILES.items():
+            names = {name.name for node in tree.body if isinstance(node, ast.ImportFrom) and node.module in LIBRARY
+                     for name in node.names}
+            calls = [node for node in ast.walk(tree) if isinstance(node, ast.Call)]
+            called = [call.func for call in calls]
+            for call in calls:
+                if getattr(call.func, "id", None) in names:
+                    self.assertFalse(call.keywords, (path.name, call.lineno))
+            for node in ast.walk(tree):
+                if isinstance(node, ast.Name) and node.id in names:
+                    self.assertIn(node, called, (path.name, node.lineno))
+
     def test_each_import_is_used(self):
         for path, tree in FILES.items():
             used = {node.id for node in ast.walk(tree) if isinstance(node, ast.Name)}

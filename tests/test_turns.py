@@ -18,7 +18,8 @@ def slow_turned_over(row):
         return None
     parts = list(row)
     s = parts[-1]
-    falling = max(many for many in range(1, len(parts) + 1) if parts[:many] == list(range(parts[0], parts[0] - many, -1)))
+    falling = max(many for many in range(1, len(parts) + 1)
+                  if parts[:many] == list(range(parts[0], parts[0] - many, -1)))
     if s <= falling:
         if len(parts) == s:
             return None
