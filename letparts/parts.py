@@ -11,10 +11,11 @@ def text_of_row(row):
     return "+".join([str(part) for part in row]) if row else _EMPTY_TEXT
 
 
-def _is_part_text(word):
-    """Whether a word is a part as rows have it in their texts."""
-    # No part has more than three digits, as no row has a sum above 600.
-    return 1 <= len(word) <= 3 and word[0] != "0" and all([sign in _DIGITS for sign in word])
+def number_of_text(text):
+    """The number with this text, of up to three digits, without a nought ahead of others; None if there is none."""
+    if not 1 <= len(text) <= 3 or not all([sign in _DIGITS for sign in text]):
+        return None
+    return None if len(text) > 1 and text[0] == "0" else int(text)
 
 
 def row_of_text(text):
@@ -23,10 +24,8 @@ def row_of_text(text):
         return None
     if text == _EMPTY_TEXT:
         return ()
-    words = text.split("+")
-    if not all([_is_part_text(word) for word in words]):
-        return None
-    row = tuple([int(word) for word in words])
+    # No part has more than three digits, as no row has a sum above 600.
+    row = tuple([number_of_text(word) for word in text.split("+")])
     return row if is_row(row) else None
 
 
@@ -49,6 +48,17 @@ def row_of_times(times):
 def is_within_times(one, other):
     """Whether no size comes more often in the first row's times than in the second one's."""
     return all([times <= other.get(size, 0) for size, times in one.items()])
+
+
+def standing_among(rows, row):
+    """Those of some rows that stand in a row, in their order."""
+    times = times_of(row)
+    return [one for one in rows if is_within_times(times_of(one), times)]
+
+
+def without_needless(rows):
+    """Those of some unlike rows in which no other one of them stands, in their order."""
+    return tuple([row for row in rows if standing_among(rows, row) == [row]])
 
 
 def joined(one, other):

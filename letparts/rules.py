@@ -6,7 +6,7 @@ from letparts.checks import is_from_to, is_integer, is_row, need_row
 from letparts.errors import InvalidBans, InvalidHead, InvalidNumber, InvalidTail, InvalidText
 from letparts.errors import NotARule, NotBans, NotCaps, TooMany
 from letparts.limits import MOST_BAN_SUM, MOST_BANS, MOST_CAP, MOST_HEAD, MOST_TAIL
-from letparts.parts import is_within_times, row_of_text, text_of_row, times_of
+from letparts.parts import row_of_text, standing_among, text_of_row, times_of, without_needless
 
 _SIGNS = "0123456*"
 _CAPS_OF_SIGNS = (0, 1, 2, 3, 4, 5, 6, None)
@@ -174,7 +174,7 @@ class Bans:
 
     def lean(self):
         """The rule that lets the same rows and has no needless ban."""
-        return Bans(_without_needless(self._bans))
+        return Bans(without_needless(self._bans))
 
 
 def need_rule(rule):
@@ -206,17 +206,6 @@ def from_rule_text(text):
     raise InvalidText(text)
 
 
-def _stand_in(bans, row):
-    """Those of the bans that stand in a row, in their order."""
-    times = times_of(row)
-    return [ban for ban in bans if is_within_times(times_of(ban), times)]
-
-
-def _without_needless(bans):
-    """The bans in which no other ban stands, in their order."""
-    return tuple([ban for ban in bans if _stand_in(bans, ban) == [ban]])
-
-
 def _ban_of(size, cap):
     """The ban of a size that a cap rule lets so often."""
     return (size,) * (cap + 1)
@@ -227,7 +216,7 @@ def standing(rule, row):
     need_rule(rule)
     need_row(row)
     if isinstance(rule, Bans):
-        return tuple(_stand_in(rule.bans, row))
+        return tuple(standing_among(rule.bans, row))
     found = []
     for size, many in times_of(row).items():
         cap = rule.cap(size)
@@ -284,7 +273,7 @@ def _both_caps(rule, other):
 
 def _both_bans(rule, other):
     """The lean ban rule that lets just the rows that both ban rules let."""
-    bans = _without_needless(tuple(sorted(set(rule.bans + other.bans))))
+    bans = without_needless(tuple(sorted(set(rule.bans + other.bans))))
     if len(bans) > MOST_BANS:
         raise TooMany(len(bans))
     return Bans(bans)

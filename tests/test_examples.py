@@ -113,6 +113,35 @@ raises NotLet(given=(6, 6))
 >>> [rank((4, 4, 1)), crank((4, 4, 1)), crank((1, 1)), by_rank(9, 5), by_crank(6, 11)]
 [1, 1, -2, (6, 6, 6, 6, 6), (1, 1, 1, 1, 1, 1, 1, 1, 1, 1, 1)]
 '''),
+    ("heaps", '''
+>>> from letparts.heaps import comes_again, count_rounds, dealt, dealt_from, deals, is_garden, round_of, rounds
+>>> [dealt((4, 4, 1)), dealt_from((3, 3, 3)), is_garden((2, 2, 2, 2)), comes_again((3, 2, 1)), deals((4,)), round_of((4,)), count_rounds(8), rounds(4)]
+[(3, 3, 3), ((4, 4, 1),), True, True, 1, ((2, 1, 1), (2, 2), (3, 1)), 2, (((2, 1, 1), (2, 2), (3, 1)),)]
+'''),
+    ("paying", '''
+>>> from letparts.paying import balanced_rows, count_complete, factors, fewest_parts, fewest_weights, from_factors, is_balanced, is_complete, is_perfect, is_set, perfect_rows, ways_to_pay, ways_to_weigh, weights_factors
+>>> [ways_to_pay((2, 1, 1)), is_complete((4, 1, 1)), perfect_rows(5), factors((2, 2, 1)), from_factors((3, 2)), fewest_parts(9), count_complete(5), is_perfect((2, 1, 1))]
+[(1, 1, 2, 1, 1), False, ((1, 1, 1, 1, 1), (2, 2, 1), (3, 1, 1)), (2, 3), (3, 1, 1), 4, 4, False]
+>>> [ways_to_weigh((3, 1)), is_set((4, 1)), is_balanced((3, 1)), balanced_rows(4), weights_factors((3, 1)), fewest_weights(40)]
+[(1, 1, 1, 1, 1), False, True, ((1, 1, 1, 1), (3, 1)), (3, 3), 4]
+'''),
+    ("tallies", '''
+>>> from letparts.tallies import Tally, caps_of, fits, some_rule, told_excesses
+>>> seen = Tally((1, 1, 2, 2))
+>>> [told_excesses(seen), fits(seen, unlike), fits(seen, odd), caps_of(seen, 1), caps_of(seen, 2), fits(seen, some_rule(seen)), some_rule(Tally((2,)))]
+[(1, 0, 1, 0), True, True, (1, 3, None), (0, 1, None), True, None]
+'''),
+    ("asking", '''
+>>> from letparts.asking import all_rules, count_rules, next_counts
+>>> [next_counts(seen), count_rules(seen), [str(rule) for rule in all_rules(Tally((1, 1, 2)))], next_counts(Tally((0, 0)))]
+[(1, 2, 3), 4, ['*0*|*', '1**|*'], (0, 1)]
+'''),
+    ("sightings", '''
+>>> from letparts.sightings import Sighting, can_be, least_bans, quarrel, sure
+>>> dim = Sighting(((2, 1),), ((3, 3), (3, 3, 1)))
+>>> [can_be(dim), sure(dim, (3, 3, 2)), sure(dim, (2,)), sure(dim, (5,)), least_bans(dim), quarrel(dim.saw((2,), False))]
+[True, 'barred', 'let', 'open', ((3, 3),), ((2,), (2, 1))]
+'''),
 )
 
 
