@@ -61,7 +61,7 @@ def _text_of_bans(bans):
     return " ".join([text_of_row(ban) for ban in bans]) if bans else _NO_BANS_TEXT
 
 
-def _caps_of_text(text):
+def _head_and_tail(text):
     """The pair of head and tail of the cap rule with this text; None if there is none."""
     if not isinstance(text, str):
         return None
@@ -106,7 +106,7 @@ class Caps:
     @classmethod
     def read(cls, text):
         """The cap rule with this text."""
-        told = _caps_of_text(text)
+        told = _head_and_tail(text)
         if told is None:
             raise InvalidText(text)
         return cls(told[0], told[1])
@@ -195,15 +195,27 @@ def need_bans(rule):
         raise NotBans(rule)
 
 
-def from_rule_text(text):
-    """The cap rule or the ban rule with this text."""
-    told = _caps_of_text(text)
+def rule_of_text(text):
+    """The cap rule or the ban rule with this text; None if there is none."""
+    told = _head_and_tail(text)
     if told is not None:
         return Caps(told[0], told[1])
     bans = _bans_of_text(text)
-    if bans is not None:
-        return Bans(bans)
-    raise InvalidText(text)
+    return None if bans is None else Bans(bans)
+
+
+def caps_of_text(text):
+    """The cap rule with this text; None if there is none."""
+    rule = rule_of_text(text)
+    return rule if isinstance(rule, Caps) else None
+
+
+def from_rule_text(text):
+    """The cap rule or the ban rule with this text."""
+    rule = rule_of_text(text)
+    if rule is None:
+        raise InvalidText(text)
+    return rule
 
 
 def _ban_of(size, cap):

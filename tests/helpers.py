@@ -15,7 +15,7 @@ NOT_ROWS = OTHER_KINDS + (
 class Case(unittest.TestCase):
     """A test with checks of errors."""
 
-    def fails(self, error, name, value, function, *passed, **named):
+    def fails(self, error, name, value, function, /, *passed, **named):
         """The call raises just this error, with this attribute."""
         with self.assertRaises(error) as caught:
             function(*passed, **named)
@@ -43,7 +43,7 @@ class Case(unittest.TestCase):
                     self.fails(error, name, told, function, *passed)
                     self.fails(error, name, told, function, **dict(zip(names, passed)))
 
-    def same(self, expected, function, **named):
+    def same(self, expected, function, /, **named):
         """The call returns this, with its arguments by position and by name, and changes none of them."""
         kept = copy.deepcopy(named)
         turned = dict(reversed(list(named.items())))

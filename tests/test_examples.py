@@ -142,6 +142,43 @@ raises NotLet(given=(6, 6))
 >>> [can_be(dim), sure(dim, (3, 3, 2)), sure(dim, (2,)), sure(dim, (5,)), least_bans(dim), quarrel(dim.saw((2,), False))]
 [True, 'barred', 'let', 'open', ((3, 3),), ((2,), (2, 1))]
 '''),
+    ("benches", '''
+>>> from letparts.benches import Bench
+>>> bench = Bench((4, 4, 1))
+>>> bench.deal()
+>>> bench.strike((3, 2, 1), 3)
+>>> bench.put(5)
+>>> [bench.now, bench.changes, bench.undo(), bench.now, bench.undo(), bench.now]
+[(5, 3, 2, 1), 3, None, (3, 2, 1), None, (3, 3, 3)]
+'''),
+    ("desks", '''
+>>> from letparts.desks import Desk, played
+>>> desk = Desk()
+>>> desk.put("yard", unlike)
+>>> desk.put("hall", odd)
+>>> desk.promise(("alike", "yard", "hall"))
+>>> desk.promise(("yard", ("counts", 9, 8)))
+>>> [desk.names, desk.changes, desk.log[0], played(desk.log).promises]
+[('hall', 'yard'), 4, ('put', 'yard', '|1'), (('alike', 'yard', 'hall'), ('yard', ('counts', 9, 8)))]
+>>> desk.put("hall", few)
+raises Broken(index=0)
+'''),
+    ("certificates", '''
+>>> from letparts.certificates import certify_alike, certify_counts, certify_exchange, certify_lets, certify_no_fit, certify_perfect, certify_round, certify_within
+>>> from letparts.checker import accepts
+>>> [certify_alike(unlike, odd), certify_alike(few, unlike), certify_counts(unlike, 4), certify_lets(few, (2, 2)), certify_perfect((2, 2, 1)), certify_round((3, 2, 1)), certify_no_fit(Tally((2,)))]
+[(('alike', '|1', '|*0'), ()), (('unlike', '2+1 3', '|1'), 2), (('counts', '|1', 4, 2), (1, 1, 1, 2, 2)), (('lets', '2+1 3', (2, 2)), ()), (('perfect', (2, 2, 1)), (2, 3)), (('round', (3, 2, 1)), ((3, 2, 1),)), (('no fit', (2,)), (1,))]
+>>> [accepts(("bars", "|1", (4, 4, 1)), (4, 4)), accepts(("exchanged", "|1", "|*0", (6, 4, 1), (3, 3, 1, 1, 1, 1, 1)), (6, 4, 2, 2)), accepts(("core", (4, 4, 1), 3, ()), ((4, 1, 1), (1, 1, 1), ())), accepts(("not perfect", (2, 1, 1)), 2), accepts(("round", (4,)), ())]
+[True, True, True, True, False]
+'''),
+    ("console", '''
+>>> from letparts.console import Console
+>>> console = Console((4, 4, 1))
+>>> [console.say("core 3"), console.say("threads 3"), console.say("place"), console.say("let |1"), console.say("deal"), console.say("row"), console.say("from"), console.say("undo"), console.say("hooks"), console.say("again")]
+['-', '2 - 1', '17', 'no', 'ok', '3+3+3', '4+4+1', 'ok', '6 5 4 3 3 2 2 1 1', 'no']
+>>> console.say("take 9")
+raises NoSuchPart(given=9)
+'''),
 )
 
 
@@ -152,16 +189,17 @@ def shown(error):
 
 
 def said(source, names):
-    """What Python says to a line; None to a statement."""
+    """What Python says to a line; None if it says nothing."""
     try:
         code = compile(source, "example", "eval")
     except SyntaxError:
         exec(source, names)
         return None
     try:
-        return repr(eval(code, names))
+        value = eval(code, names)
     except (ValueError, LookupError, ArithmeticError) as error:
         return shown(error)
+    return None if value is None else repr(value)
 
 
 class Examples(unittest.TestCase):

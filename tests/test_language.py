@@ -19,7 +19,6 @@ METHODS = """
     append clear copy count endswith extend find get index insert isalnum isalpha isdigit islower isspace isupper items
     join keys ljust lower lstrip partition pop remove replace reverse rfind rjust rpartition rsplit rstrip setdefault
     split splitlines startswith strip update upper values zfill bit_length""".split()
-OWN_METHODS = "cap shortest read lean".split()
 BARRED_NAMES = """
     register mro elements open input law version_info with_traceback add_note attrgetter breakpoint builtins compile
     copyright credits delattr dir eval exec exit gc getattr globals hasattr help id importlib license locals methodcaller
@@ -30,8 +29,14 @@ NODES = """
     Module Expr Constant ImportFrom alias FunctionDef arguments arg ClassDef Return Assign AugAssign If While For Break
     Continue Pass Raise Name Load Store Attribute Subscript Slice Tuple List Dict Set BoolOp And Or UnaryOp Not USub
     BinOp Add Sub Mult FloorDiv Mod Pow BitXor BitAnd BitOr LShift Compare Eq NotEq Lt LtE Gt GtE Is IsNot In NotIn
-    Lambda Call keyword IfExp ListComp DictComp SetComp comprehension JoinedStr FormattedValue""".split()
+    Lambda Call keyword IfExp ListComp DictComp SetComp comprehension JoinedStr FormattedValue Starred With withitem Match
+    match_case MatchValue MatchAs Try ExceptHandler""".split()
+DOUBLE = "__init__ __eq__ __str__ __len__ __bool__ __enter__ __exit__".split()
 FILES = {path: ast.parse(path.read_text()) for path in sorted(PACKAGE.rglob("*.py"))}
+
+
+CLASSES = {node.name: node for tree in FILES.values() for node in tree.body if isinstance(node, ast.ClassDef)}
+OWN_METHODS = [node.name for each in CLASSES.values() for node in each.body if isinstance(node, ast.FunctionDef)]
 
 
 def bound_at_module_level(tree):
@@ -150,6 +155,68 @@ class Language(unittest.TestCase):
             if isinstance(node.func, ast.Attribute):
                 self.assertIn(node.func.attr, METHODS + OWN_METHODS, (name, node.lineno))
                 self.assertFalse(node.keywords, (name, node.lineno))
+
+    def test_classes(self):
+        properties = set()
+        for name, each in CLASSES.items():
+            methods = [node for node in each.body if isinstance(node, ast.FunctionDef)]
+            names = [node.name for node in methods]
+            self.assertEqual(len(names), len(set(names)), name)
+            self.assertEqual(len(methods) + 1, len(each.body), name)
+            for node in methods:
+                if node.name.startswith("__"):
+                    self.assertIn(node.name, DOUBLE)
+                kinds = [mark.id for mark in node.decorator_list]
+                self.assertIn(kinds, ([], ["property"], ["classmethod"]))
+                if kinds == ["property"]:
+                    properties.add(node.name)
+                    self.assertEqual(len(node.args.args), 1)
+            stored = {node.attr for node in ast.walk(each)
+                      if isinstance(node, ast.Attribute) and isinstance(node.ctx, ast.Store)}
+            self.assertFalse(stored & set(names), name)
+        plain = [node.name for each in CLASSES.values() for node in each.body if not getattr(node, "decorator_list", [1])]
+        self.assertFalse(properties & set(plain))
+        self.assertFalse(properties & set(METHODS))
+
+    def test_trials_end_plainly(self):
+        ends = [node for each in CLASSES.values() for node in each.body if getattr(node, "name", None) == "__exit__"]
+        self.assertEqual(len(ends), 1)
+        for node in ends[0].body:
+            rows = [node]
+            if isinstance(node, ast.If):
+                self.assertEqual(ast.unparse(node.test), "kind is not None")
+                rows = node.body
+            for row in rows:
+                self.assertIsInstance(row, ast.Assign)
+                self.assertIsInstance(row.targets[0], ast.Attribute)
+                self.assertIsInstance(row.value, ast.Attribute)
+        for name, node in nodes(ast.withitem):
+            self.assertIn(node.context_expr.func.id, CLASSES, name)
+
+    def test_own_errors_are_caught_alone(self):
+        for name, node in nodes(ast.ExceptHandler):
+            for kind in node.type.elts if isinstance(node.type, ast.Tuple) else [node.type]:
+                self.assertIn(kind.id, CLASSES, name)
+            self.assertIsNone(node.name)
+
+    def test_cases_are_plain(self):
+        for name, node in nodes(ast.MatchValue):
+            self.assertIsInstance(node.value.value, str, name)
+        for name, node in nodes(ast.MatchAs):
+            self.assertEqual((node.pattern, node.name), (None, None), name)
+        for name, node in nodes(ast.match_case):
+            self.assertIsNone(node.guard, name)
+
+    def test_tables_are_read_alone(self):
+        for path, tree in FILES.items():
+            tables = {node.targets[0].id for node in tree.body
+                      if isinstance(node, ast.Assign) and isinstance(node.value, (ast.Dict, ast.List))}
+            read = [node.value for node in ast.walk(tree) if isinstance(node, ast.Subscript)]
+            read += [node.value for node in ast.walk(tree) if isinstance(node, ast.Attribute) and node.attr == "get"]
+            read += [node.comparators[0] for node in ast.walk(tree) if isinstance(node, ast.Compare)]
+            for node in ast.walk(tree):
+                if isinstance(node, ast.Name) and isinstance(node.ctx, ast.Load) and node.id in tables:
+                    self.assertIn(node, read, (path.name, node.lineno))
 
     def test_powers_have_literal_exponents(self):
         for name, node in nodes(ast.BinOp):
