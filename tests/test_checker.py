@@ -2,7 +2,7 @@ import random
 import unittest
 
 from letparts.checker import accepts
-from letparts.counts import count_all, counts
+from letparts.counts import count_all, counts, counts_by_excesses
 from letparts.rules import Bans, Caps, from_rule_text
 from letparts.tallies import Tally
 from tests import slow_checker
@@ -178,6 +178,8 @@ class Edges(Case):
                   (("exchanged", "|1", "|*0", (60,), (15,) * 4), (60, 30)),
                   (("exchanged", "|1", "|*0", (60,), (30, 30)), (60,)),
                   (("exchanged", "|1", "|*0", (60,), (15,) * 4), (60, 30, 30, 15)),
+                  (("exchanged", "|1", "|*0", (1, 1), (1, 1)), ()), (("exchanged", "|1", "|*0", (2, 2), (1, 1, 1, 1)), (2, 2)),
+                  (("exchanged", "|*0", "|1", (2, 1), (2, 1)), ()), (("exchanged", "|1", "|*0", (6,), (6,)), ()),
                   (("exchanged", "|1", "2+1 3", (60,), (60,)), ()), (("exchanged", "|1", "|2", (5,), (5,)), ()),
                   (("exchanged", "none", "none", (5,), (5,)), ()))
         self.both((("place", "|*", (60,), EVERY[60] - 1), ()), (("place", "|*", (61,), count_all(61) - 1), ()),
@@ -241,6 +243,21 @@ class Edges(Case):
         self.both((("no fit", (1, 0, 1, 0)), (2, 4)), (("no fit", (1, 0, 1, 0)), (4, 2)),
                   (("no fit", (1, 0, 1, 0)), (2,)), (("no fit", (1, 0, 1, 0)), (2, 2, 4)),
                   (("no fit", (1, 0, 1, 0)), [2, 4]))
+
+    def test_crowds(self):
+        lots = random.Random(163)
+        seen = {True: 0, False: 0}
+        for _ in range(60):
+            asked = [lots.choice((-2, -1, 0, 0, 1, 1, 2, 3)) for _ in range(lots.randint(1, 6))]
+            tally = tuple(counts_by_excesses([1 - many for many in asked])[1:])
+            if min(tally) < 0:
+                continue
+            for choice in range(1 << len(tally)):
+                paper = tuple(at + 1 for at in range(len(tally)) if choice >> at & 1)
+                right = slow_checker.accepts(("no fit", tally), paper)
+                self.assertIs(accepts(("no fit", tally), paper), right, (tally, paper))
+                seen[right] += 1
+        self.assertGreater(min(seen.values()), 50)
 
     def test_objects_in_papers(self):
         for claim, paper in SHOWN:
